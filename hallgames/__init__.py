@@ -1,0 +1,1 @@
+"""Taflhall: games. What is called from outside is answers, in hallgames.desk."""
