@@ -4,6 +4,8 @@ import unittest
 
 from helper import BACK, OPEN_GROUND, ask, begin, board, came, end, hall, last, move, rules
 
+from hallgames.rulestext import read_rules
+
 START = board("hb2 hf2 me4 Kd4")
 RIGHT = rules(START)
 
@@ -260,6 +262,31 @@ class Object(unittest.TestCase):
 
 
 class WhatItSays(unittest.TestCase):
+    def says(self, part, expected, **words):
+        read = read_rules(list(rules(START, board("Sd4 Xa1 #g7"), **words).encode()))
+        self.assertEqual(getattr(read, part), expected, words)
+
+    def test_the_number_of_each_word(self):
+        for number, word in enumerate(("hunters", "king")):
+            self.says("first", number, first=word)
+        for number, word in enumerate(("steps", "slides")):
+            self.says("slides", number, king=word + " armed two")
+        for number, word in enumerate(("bare", "armed")):
+            self.says("armed", number, king=f"slides {word} two")
+        for number, word in enumerate(("two", "four")):
+            self.says("four", number, king="slides bare " + word)
+        for number, word in enumerate(("barred", "passed")):
+            self.says("passed", number, seat=word + " men")
+        for number, word in enumerate(("quiet", "hunters", "men", "all")):
+            self.says("seat", number, seat="passed " + word)
+            self.says("exits", number, exits=word)
+        for number, word in enumerate(("edge", "exits")):
+            self.says("goal", number, goal=word)
+        for number, word in enumerate(("drawn", "hunters", "king")):
+            self.says("thrice", number, thrice=word)
+        for number in (1, 10, 59999, 60000):
+            self.says("limit", number, limit=str(number))
+
     def test_who_moves_first(self):
         for first, goes, stays in (("hunters", "b2-b3", "d4-d5"), ("king", "d4-d5", "b2-b3")):
             one = hall("hb2 Kd4", first=first)

@@ -4,6 +4,9 @@ import unittest
 
 from helper import BACK, ask, came, end, hall, last, move, say
 
+from hallgames.game import Game
+from hallgames.rulestext import read_rules
+
 OPEN_HALL = hall("hb2 hf2 Kd5", "")
 ROUND = ("b2-b3", "d5-d4", "b3-b2", "d4-d5")
 
@@ -159,6 +162,15 @@ class Ending(unittest.TestCase):
         for h in (0, 1, 2):
             self.assertEqual(ask(OPEN_HALL, end(h)), [[0], [0]])
             self.assertEqual(ask(OPEN_HALL, move("b2-b3"), end(h))[2], [0])
+
+    def test_6_given_up_and_7_left_as_drawn(self):
+        for h, how in ((0, 6), (1, 6), (2, 7)):
+            game = Game(read_rules(OPEN_HALL[2:]))
+            self.assertEqual(game.how_over(), 0)
+            game.leave(h)
+            self.assertEqual(game.how_over(), how)
+            game.take_back()
+            self.assertEqual(game.how_over(), 0)
 
     def test_h_above_2(self):
         for h in (3, 4, 6, 7, 255, 4294967295):
