@@ -33,6 +33,11 @@ def is_of_side(piece, side):
     return piece == MAN or piece == KING
 
 
+def own_cells(position):
+    # The cells, rising, that have a piece of the side whose turn it is.
+    return [cell for cell in range(len(position.board)) if is_of_side(position.board[cell], position.turn)]
+
+
 def is_free(rules, board, cell):
     return cell != NOWHERE and rules.ground[cell] != WALL and board[cell] == NOBODY
 
@@ -71,16 +76,21 @@ def targets(rules, position, cell):
     return sorted(found)
 
 
-def list_of_moves(rules, position):
-    # In their order, each as a tuple of its two cells. The position must not be over by 1 or 2.
+def moves_from(rules, position, cells):
+    # Those that begin on these cells, each as a tuple of its two cells. The position must not be over by 1 or 2.
     found = []
-    for x in range(len(position.board)):
+    for x in cells:
         found.extend([(x, y) for y in targets(rules, position, x)])
     return found
 
 
+def list_of_moves(rules, position):
+    # In their order.
+    return moves_from(rules, position, own_cells(position))
+
+
 def can_move(rules, position):
-    for cell in range(len(position.board)):
+    for cell in own_cells(position):
         if len(targets(rules, position, cell)) > 0:
             return True
     return False

@@ -1,6 +1,7 @@
 """Reads a text by a grammar, up to the first place where no text of the grammar goes on."""
 
 LONGEST_NAME = 16
+LINE_FEED = 10
 
 
 class GrammarFault(ValueError):
@@ -9,11 +10,15 @@ class GrammarFault(ValueError):
         self.place = place
 
 
-def agreed(source, place, word):
-    # How many bytes of the word, from its first on, stand in the source at this place.
+def bytes_of(signs):
+    return [ord(sign) for sign in signs]
+
+
+def agreed(source, place, row):
+    # How many bytes of the row, from its first on, stand in the source at this place.
     same = 0
-    for byte, sign in zip(source[place:place + len(word)], word):
-        if byte != ord(sign):
+    for byte, wanted in zip(source[place:place + len(row)], row):
+        if byte != wanted:
             return same
         same += 1
     return same
@@ -52,11 +57,14 @@ class Reader:
             return self.source[self.place]
         return -1
 
+    def agreed_with(self, word):
+        return agreed(self.source, self.place, bytes_of(word))
+
     def choice(self, words):
         # The number of the word that stands here. No word may begin with another one of them.
         longest = 0
         for number, word in enumerate(words):
-            same = agreed(self.source, self.place, word)
+            same = self.agreed_with(word)
             if same == len(word):
                 self.place += same
                 return number
@@ -64,7 +72,20 @@ class Reader:
         raise GrammarFault(self.place + longest)
 
     def word(self, word):
-        self.choice((word,))
+        self.row(bytes_of(word))
+
+    def row(self, row):
+        same = agreed(self.source, self.place, row)
+        if same < len(row):
+            raise GrammarFault(self.place + same)
+        self.place += same
+
+    def line_ahead(self):
+        # The bytes up to the next line feed, or all that are left. The reader stays where it is.
+        end = self.place
+        while end < len(self.source) and self.source[end] != LINE_FEED:
+            end += 1
+        return self.source[self.place:end]
 
     def number(self, least, most):
         value = 0
@@ -84,7 +105,18 @@ class Reader:
             raise GrammarFault(begun)
         while self.place - begun < LONGEST_NAME and (is_letter(self.peek()) or is_digit(self.peek())):
             self.place += 1
+        return self.source[begun:self.place]
 
     def finish(self):
         if self.place < len(self.source):
             raise GrammarFault(self.place)
+
+
+def is_name(source):
+    reader = Reader(source)
+    try:
+        reader.name()
+        reader.finish()
+    except GrammarFault:
+        return False
+    return True

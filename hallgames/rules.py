@@ -19,14 +19,17 @@ MAN = "m"
 KING = "K"
 
 HUNTERS_SIDE = 0
+KINGS_SIDE = 1
 
 GOAL_EDGE = 0
 GOAL_EXITS = 1
 
 
 class Rules:
-    # The ground and the board are texts with one sign for each of the 169 numbers that a cell can have.
-    def __init__(self, wide, high):
+    # The name is a row of bytes; the ground and the board are texts with one sign for each of the 169 numbers that a
+    # cell can have.
+    def __init__(self, own_name, wide, high):
+        self.own_name = own_name
         self.wide = wide
         self.high = high
         self.ground = PLAIN * CELLS

@@ -2,17 +2,10 @@
 
 import unittest
 
-from helper import BACK, ask, came, end, hall, last, move, say
+from helper import BACK, OPEN_HALL, ROUND, ask, came, end, hall, last, move, moves, say
 
 from hallgames.game import Game
 from hallgames.rulestext import read_rules
-
-OPEN_HALL = hall("hb2 hf2 Kd5", "")
-ROUND = ("b2-b3", "d5-d4", "b3-b2", "d4-d5")
-
-
-def moves(*lines):
-    return [move(line) for line in lines]
 
 
 class OverByThePosition(unittest.TestCase):
