@@ -16,7 +16,6 @@ NOW = 5
 AT = 6
 MADE = 7
 TEXT = 8
-READ = 9
 
 # Of each call by its number: how many whole numbers it has, how many rows behind them.
 SHAPES = ((0, 1), (2, 0), (0, 1), (1, 0), (0, 0), (0, 0), (1, 0), (1, 0), (0, 2), (0, 1))
@@ -81,6 +80,7 @@ class Desk:
             return self.made(numbers[0])
         if call == TEXT:
             return self.text(rows[0], rows[1])
+        # Of the ten calls only read is left.
         return self.read(rows[0])
 
     def begin(self, source):

@@ -201,6 +201,8 @@ class Taking(unittest.TestCase):
         self.assertEqual(last(one, move("b11-l11")), came("b11-l11"))
         one = hall("hb2 ma4 hm13 Kf6", "Sf1", 13, 13, **words)
         self.assertEqual(last(one, move("b2-b4")), came("b2-b4"))
+        one = hall("hb2 mm13 hm1 Kf6", "Sf1", 13, 13, **words)
+        self.assertEqual(last(one, move("b2-b13")), came("b2-b13"))
         one = hall("hb2 ma4 hg1 Kf6", "Sf1 Xm13", 13, 13, **words)
         self.assertEqual(last(one, move("b2-b4")), came("b2-b4"))
 

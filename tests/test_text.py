@@ -2,7 +2,7 @@
 
 import unittest
 
-from helper import BACK, NOW, OPEN_HALL, ROUND, SAMPLES, TAKING_HALL, TAKING_LINES, ask, begin, board, end, game
+from helper import BACK, NOW, OPEN_HALL, ROUND, SAMPLES, TAKING_HALL, ask, begin, board, end, game
 from helper import hall, last, move, moves, open_hall, read, rules, say, text, text_told
 
 LONGEST = "Abcdefghijklmno6"
